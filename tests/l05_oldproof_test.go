@@ -137,31 +137,38 @@ func seeStory(t *testing.T, list []impl.Slot, x story) {
 	}
 }
 
-// sidesTo: what may stand at the side of sum, so that both of them have the sum target; 65521 is
-// prime, so that the low byte of it is known once the high one is.
+// numbersTo: the sums that lead to target, where sum tells what comes of one that stands in two bytes
+// of a piece; 65521 is prime, so that the low byte of it is known once the high one is.
+func numbersTo(target int64, sum func(n int64) int64) []int64 {
+	weight := (sum(1) - sum(0) + 65521) % 65521
+	over := int64(1)
+	for left := 65519; left > 0; left /= 2 {
+		if left%2 == 1 {
+			over = over * weight % 65521
+		}
+		weight = weight * weight % 65521
+	}
+	var numbers []int64
+	for high := range int64(256) {
+		low := (target - sum(high*256) + 65521) % 65521 * over % 65521
+		if n := high*256 + low; low < 256 && n < 65521 {
+			if sum(n) != target {
+				panic("numbersTo tells a number that does not lead there")
+			}
+			numbers = append(numbers, n)
+		}
+	}
+	return numbers
+}
+
+// sidesTo: what may stand at the side of sum, so that both of them have the sum target.
 func sidesTo(place int64, sum int64, target int64) []int64 {
-	both := func(side int64) int64 {
+	return numbersTo(target, func(side int64) int64 {
 		if place%2 == 1 {
 			return sumBack(tagged(2, []int64{side, sum}))
 		}
 		return sumBack(tagged(2, []int64{sum, side}))
-	}
-	weight := (both(1) - both(0) + 65521) % 65521
-	over := int64(1)
-	for range 65519 {
-		over = over * weight % 65521
-	}
-	var sides []int64
-	for high := range int64(256) {
-		low := (target - both(high*256) + 65521) % 65521 * over % 65521
-		if side := high*256 + low; low < 256 && side < 65521 {
-			if both(side) != target {
-				panic("sidesTo tells a side that does not lead there")
-			}
-			sides = append(sides, side)
-		}
-	}
-	return sides
+	})
 }
 
 // forged: the story with each path that leads it to the root, another side at level, all else as it is.
