@@ -1000,8 +1000,9 @@ func TestP1NoRecords(t *testing.T) {
 	}
 }
 
-func TestP1DirectoriesHangOnArguments(t *testing.T) {
-	all := someOfDirectories()
+// seeAgain: what is answered is what was answered first, however often and in whichever order it is asked.
+func seeAgain[T interface{ ask() string }](t *testing.T, all []T) {
+	t.Helper()
 	var first []string
 	for _, x := range all {
 		first = append(first, x.ask())
@@ -1010,10 +1011,14 @@ func TestP1DirectoriesHangOnArguments(t *testing.T) {
 	for at, was := range slices.Backward(first) {
 		for range 3 {
 			if is := all[at].ask(); is != was {
-				t.Fatalf("%v: %s, then %s", all[at], was, is)
+				t.Fatalf("%+v: %s, then %s", all[at], was, is)
 			}
 		}
 	}
+}
+
+func TestP1DirectoriesHangOnArguments(t *testing.T) {
+	seeAgain(t, someOfDirectories())
 }
 
 // P1: an answer at every argument, however far from what may be.

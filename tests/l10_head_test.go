@@ -1059,19 +1059,7 @@ func TestP1NoHeads(t *testing.T) {
 }
 
 func TestP1HeadsHangOnArguments(t *testing.T) {
-	all := someHeadsAsked()
-	var first []string
-	for _, x := range all {
-		first = append(first, x.ask())
-	}
-	// The other way round the second time, so that something kept would show.
-	for at, was := range slices.Backward(first) {
-		for range 2 {
-			if is := all[at].ask(); is != was {
-				t.Fatalf("%v: %s, then %s", all[at], was, is)
-			}
-		}
-	}
+	seeAgain(t, someHeadsAsked())
 }
 
 // P1: an answer at every argument, however far from what may be.
